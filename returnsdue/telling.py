@@ -1,0 +1,97 @@
+"""What is told of a run at a moment: its control, and all that can be reached from there."""
+
+from returnsdue.stepper import body_of, name_of, worth_of
+
+
+def told_names(names, chain):
+    """The pairs of these names, which ascend, and their worths in a chain."""
+    return tuple([(name, worth_of(name, chain)) for name in names])
+
+
+def told_control(runner):
+    """What the next step is, or how the run ended."""
+    if runner.ended is not None:
+        return ("end", runner.ended)
+    if runner.node is not None:
+        return ("at", runner.node.path, told_names(runner.node.free, runner.names))
+    return ("with", runner.worth)
+
+
+def names_waiting(kind, node):
+    """The ascending names that are free in what a frame's node has still to evaluate."""
+    if kind == "call1" or kind == "pair1":
+        return node.free_of(2)
+    if kind == "work1" or kind == "let":
+        return node.free_of(3)
+    if kind == "open":
+        return node.free_of(4)
+    if kind == "choose":
+        return tuple(sorted(set(node.free_of(2) + node.free_of(3))))
+    return ()
+
+
+def told_frame(row):
+    """A row of frames as state tells it."""
+    kind, node, names, worth, below = row
+    return (kind, node.path, told_names(names_waiting(kind, node), names), worth, below)
+
+
+def told_thing(row):
+    """A row of things as state tells it."""
+    if row[0] == "function":
+        _, node, names = row
+        free = [name for name in body_of(node).free if name != name_of(node)]
+        return ("function", node.path, told_names(free, names))
+    if row[0] == "pair":
+        return ("pair", row[2], row[3])
+    return ("kept", row[2])
+
+
+def worths_of_names(names):
+    """The worths of a tuple of pairs (name, worth)."""
+    return [worth for _, worth in names]
+
+
+def reached_from_control(control):
+    """The worths that control tells."""
+    if control[0] == "at":
+        return worths_of_names(control[2])
+    return [control[1]] if control[0] == "with" else []
+
+
+def reached_from_frame(row):
+    """The worths that a told frame has, and the frame below."""
+    _, _, names, worth, below = row
+    held = [] if worth is None else [worth]
+    return worths_of_names(names) + held + [("frame", below)]
+
+
+def reached_from_thing(row):
+    """The worths that a told thing has, and the top frame of a kept place."""
+    if row[0] == "function":
+        return worths_of_names(row[2])
+    if row[0] == "pair":
+        return [row[1], row[2]]
+    return [("frame", row[1])]
+
+
+def told_state(runner):
+    """The state of a run: control, top, frames, things, shown."""
+    control = told_control(runner)
+    frames = {}
+    things = {}
+    waiting = [("frame", runner.newest)] + reached_from_control(control)
+    while waiting:
+        word, birth = waiting.pop()
+        if word == "frame" and birth is not None and birth not in frames:
+            frames[birth] = told_frame(runner.frames[birth])
+            waiting.extend(reached_from_frame(frames[birth]))
+        if word == "thing" and birth not in things:
+            things[birth] = told_thing(runner.things[birth])
+            waiting.extend(reached_from_thing(things[birth]))
+    return (control, runner.newest, ascending(frames), ascending(things), tuple(runner.numbers))
+
+
+def ascending(rows):
+    """A dict with its keys in ascending order."""
+    return {birth: rows[birth] for birth in sorted(rows)}
