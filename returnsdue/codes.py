@@ -64,7 +64,7 @@ class Block:
         if word == "number":
             return is_number(row[1])
         if word == "work":
-            return isinstance(row[1], str) and row[1] in WORKS
+            return row[1] in WORKS
         if word in ("fun", "def"):
             return self.is_picking(row[1], row[2]) and (word == "fun" or self.is_slot(row[3]))
         if word in ("let", "drop", "keeplast"):

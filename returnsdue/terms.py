@@ -32,7 +32,7 @@ def is_node(value):
     if word == "number":
         return is_number(value[1])
     if word == "work":
-        return isinstance(value[1], str) and value[1] in WORKS
+        return value[1] in WORKS
     return are_binders(names_bound(value))
 
 

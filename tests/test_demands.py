@@ -16,7 +16,7 @@ USES = [
 NO_DEMANDS = [
     ("number",), ("number", True), ("number", "3"), ("number", None), ("number", 1, 2), ("number", (1,)),
     ("end",), ("end", ("stuck",)), ("end", ("more",)), ("end", ("number",)), ("end", ("number", True)), ("end", "pair"),
-    ("end", ["pair"]), ("end", ("pair",), ()), ("end", ()), ("end", None),
+    ("end", ["pair"]), ("end", ("pair",), ()), ("end", ("pair", 5)), ("end", ("show", 5)), ("end", (0, 5)), ("end", ()), ("end", None),
     ("enter",), ("enter", None), ("enter", []), ("enter", END), ("enter", (), ()),
     ("open", ()), ("open", (), (), ()), ("open", [], ()), ("open", (), []), ("open", (), None),
     ("call", ()), ("call", (), [], ()), ("call", (), []), ("call", [], ()), ("call", (), (END,)), ("call", (), None),

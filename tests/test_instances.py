@@ -6,6 +6,7 @@ from returnsdue.billing import bill
 from returnsdue.errors import BadExpression, BadPath, BadProgram, NoBill, TooMany, Unlike
 from returnsdue.instances import exchanged, instances, profile
 from returnsdue.judging import is_bill, lines, needs
+from returnsdue.stepper import Runner, Trail
 from returnsdue.terms import is_program, part_at, paths, with_part
 from tests.programs import (
     BY_HAND, ENDLESS, ENTERED, IDENTITY, STUCK, TWICE, call, counted_down, name, number, of_steps, of_tuples,
@@ -86,6 +87,14 @@ class InstancesTest(unittest.TestCase):
         self.assertEqual((found[(1,)], found[(4,)], found[(4, 1, 3)], found[(4, 2)], found[(4, 3)]), (1, 2, 2, 1, 1))
         found = profile(counted_down(5, number(7)))
         self.assertEqual((found[(3,)], found[(3, 2)], found[(3, 3)], found[(4,)]), (6, 5, 1, 1))
+
+    def test_so_often_an_expression_is_begun(self):
+        for program, _ in billed(BY_HAND + random_programs(30, 60, is_program)):
+            runner = Runner(program, Trail())
+            while runner.step():
+                pass
+            begun = [node.path for word, node, _ in runner.trail.log if word == "begin"]
+            self.assertEqual(profile(program), {path: begun.count(path) for path in paths(program)})
 
     def test_results_are_new(self):
         instances(TWICE, (4, 1))[0][1].clear()
@@ -171,7 +180,11 @@ class ExchangedTest(unittest.TestCase):
                     made = with_part(program, path, part)
                     try:
                         found, more = exchanged(program, path, part)
-                    except (Unlike, NoBill, TooMany, BadExpression):
+                    except Unlike:
+                        old, new = instances(program, path), instances(made, path)
+                        self.assertNotEqual([one[:2] for one in old], [one[:2] for one in new])
+                        continue
+                    except (NoBill, TooMany, BadExpression):
                         continue
                     self.assertEqual(found, bill(made))
                     self.assertEqual(more, sum(lines(found[1]).values()) - sum(lines(value[1]).values()))

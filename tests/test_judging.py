@@ -159,6 +159,56 @@ class BillsTest(unittest.TestCase):
         for kids in ((one,), (two, one), (one, two, two), (), (one, None), (None, two)):
             self.assertEqual(needs(e, (end,), ("def", kids, last)), None)
 
+    def test_parts_that_return_three_times(self):
+        def read(n):
+            return (("number", n),)
+        # Whoever is called with k enters it twice, so the keep returns three times.
+        kept = ("keep", "k", call(name("g"), name("k")))
+        for numbers in ((1, 2, 3), (3, 1, 1)):
+            entered = (("enter", read(numbers[1])), ("enter", read(numbers[2])))
+            tree = ("keep", 2, ("call", LOOK, ((LOOK, (("called", entered, 1),)),)))
+            needed = (("call", entered, (read(numbers[0]),)),)
+            self.assertEqual(needs(kept, tuple(read(n) for n in numbers), tree), {"g": needed})
+            self.assertEqual(needs(kept, tuple(read(n + 1) for n in numbers), tree), None)
+            pairs = tuple((10, n) for n in numbers)
+            sums = tuple(read(10 + n) for n in numbers)
+            work = ("work", "plus", name("a"), kept)
+            self.assertEqual(needs(work, sums, ("work", LOOK, ((tree, pairs),))), {"a": read(10) * 3, "g": needed})
+            self.assertEqual(needs(work, sums[::-1], ("work", LOOK, ((tree, pairs),))), None)
+            self.assertEqual(needs(work, sums, ("work", LOOK, ((tree, pairs[::-1]),))), None)
+            work = ("work", "plus", kept, name("a"))
+            rows = tuple((LOOK, ((n, 10),)) for n in numbers)
+            self.assertEqual(needs(work, sums, ("work", tree, rows)), {"g": needed, "a": read(10) * 3})
+            self.assertEqual(needs(work, sums, ("work", tree, rows[::-1])), None)
+            shown = tuple(read(n) for n in numbers)
+            self.assertEqual(needs(("show", kept), shown, ("show", tree, numbers)), {"g": needed})
+            self.assertEqual(needs(("show", kept), shown[::-1], ("show", tree, numbers)), None)
+            opened = tuple((("open", read(n), read(7)), ("end", ("pair",)), ("open", (), read(8))) for n in numbers)
+            second = ("pair", kept, name("b"))
+            self.assertEqual(needs(second, opened, ("pair", tree, (LOOK,) * 3)), {"g": needed, "b": (read(7) + read(8)) * 3})
+            self.assertEqual(needs(second, opened[::-1], ("pair", tree, (LOOK,) * 3)), None)
+            let = ("let", "x", kept, ("show", name("x")))
+            rows = tuple(("show", LOOK, (n,)) for n in numbers)
+            self.assertEqual(needs(let, shown, ("let", tree, rows)), {"g": needed})
+            self.assertEqual(needs(let, shown, ("let", tree, rows[::-1])), None)
+
+    def test_a_keep_is_entered_or_ends_the_run(self):
+        kept = ("keep", "k", ("show", name("k")))
+        self.assertEqual(needs(kept, ((("number", 3),),), ("keep", 0, ("show", LOOK, (3,)))), None)
+        kept = ("keep", "k", name("k"))
+        self.assertEqual(needs(kept, ((("end", ("kept",)),),), ("keep", 0, LOOK)), {})
+        self.assertEqual(needs(kept, ((("enter", ()),), ()), ("keep", 1, LOOK)), {})
+        for use in (("number", 3), ("call", (), ()), ("open", (), ()), ("end", ("pair",)), END):
+            self.assertEqual(needs(kept, ((use,),), ("keep", 0, LOOK)), None)
+
+    def test_a_pair_is_opened_or_ends_the_run(self):
+        pair = ("pair", name("a"), name("b"))
+        tree = ("pair", LOOK, (LOOK,))
+        self.assertEqual(needs(pair, ((("end", ("pair",)),),), tree), {})
+        for use in (("number", 3), ("call", (), ()), ("enter", ()), ("end", ("kept",)), END):
+            self.assertEqual(needs(pair, ((use,),), tree), None)
+            self.assertEqual(needs(pair, ((("open", (), ()), use),), tree), None)
+
     def test_thirty_digits(self):
         most = 10 ** 30 - 1
         e = ("work", "plus", name("a"), name("b"))
