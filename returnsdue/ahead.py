@@ -64,6 +64,12 @@ def returns_due(program, moment):
     return still_to_come(runner.trail.taken, moment, frames)
 
 
+def dues_from(program, moment):
+    """By births, how many returns all frames of a run get from a moment on."""
+    runner = finished(program)
+    return list(still_to_come(runner.trail.taken, moment, len(runner.frames)).values())
+
+
 def uses_due(program, moment):
     """How many uses the things made by a moment will still have."""
     runner = finished_with(program, moment)

@@ -40,8 +40,26 @@ def cells_under(tops):
 
 
 def frame_under(tops, birth):
-    """The frame with this birth under any of these tops; None without one, for any value."""
+    """The frame with this birth under any of these tops; None without one, for any value of birth.
+
+    Births fall from each cell to the one below, so nothing lies deeper than where they get lower.
+    """
     if not is_natural(birth):
         return None
-    cell = cells_under(tops).get(birth)
-    return None if cell is None else cell[1]
+    seen = {}
+    for top in tops:
+        cell = top
+        while cell is not None and cell[0] > birth and cell[0] not in seen:
+            seen[cell[0]] = True
+            cell = cell[2]
+        if cell is not None and cell[0] == birth:
+            return cell[1]
+    return None
+
+
+def frame_in(row, birth):
+    """The frame with this birth in a row of pairs of births, which rise, and frames; None without one."""
+    for other, frame in reversed(row):
+        if other <= birth:
+            return frame if other == birth else None
+    return None

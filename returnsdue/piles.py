@@ -1,6 +1,6 @@
 """Piles of frames: four kinds that tell the same and hold their frames in different ways."""
 
-from returnsdue.cells import births_below, cells_under, check_frame, check_mark, frame_under
+from returnsdue.cells import births_below, cells_under, check_frame, check_mark, frame_in, frame_under
 from returnsdue.errors import BadDues, Gone
 from returnsdue.wholes import is_natural
 
@@ -60,9 +60,9 @@ class Copied:
         if not is_natural(birth):
             return None
         for row in [self.present, *self.marks]:
-            for other, frame in row:
-                if other == birth:
-                    return frame
+            found = frame_in(row, birth)
+            if found is not None:
+                return found
         return None
 
     def held(self):
@@ -198,10 +198,8 @@ class Split:
 
     def frame(self, birth):
         """The frame with this birth if the pile holds it, otherwise None."""
-        for other, frame in self.row:
-            if is_natural(birth) and other == birth:
-                return frame
-        return frame_under(self.marks, birth)
+        found = frame_in(self.row, birth) if is_natural(birth) else None
+        return frame_under([self.sealed, *self.marks], birth) if found is None else found
 
     def held(self):
         """The births of all frames that the pile holds."""

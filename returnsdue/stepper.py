@@ -7,7 +7,8 @@ worth, below), one of things ("function", node, names), ("pair", node, worth, wo
 """
 
 from returnsdue.nodes import planted
-from returnsdue.wholes import is_number, worked
+from returnsdue.wholes import worked
+from returnsdue.worths import ending_of, is_workable, sort_of
 
 FIRST_FRAMES = {
     "call": ("call1", 1), "let": ("let", 2), "open": ("open", 1), "choose": ("choose", 1),
@@ -65,6 +66,18 @@ class Runner:
         self.frames.append((kind, node, names, worth, self.newest))
         self.newest = len(self.frames) - 1
 
+    def frame_of(self, birth):
+        """The row of the frame with this birth, None if it is not held."""
+        return self.frames[birth]
+
+    def keep_place(self, node):
+        """Keep the place with the frames that wait now; its worth."""
+        return self.make(("kept", node, self.newest))
+
+    def enter_place(self, birth):
+        """Let the frames of the kept place with this birth wait in the place of those that do."""
+        self.newest = self.things[birth][2]
+
     def make(self, row):
         """Make a thing; its worth."""
         self.things.append(row)
@@ -76,9 +89,9 @@ class Runner:
         if self.trail is not None:
             self.trail.log.append(("give", self.newest, worth))
         if self.newest is None:
-            self.ended = self.ending(worth)
+            self.ended = ending_of(worth, self.things)
             return
-        kind, node, names, held, _ = self.frames[self.newest]
+        kind, node, names, held, _ = self.frame_of(self.newest)
         if kind in SECOND_FRAMES:
             self.take()
             second, at = SECOND_FRAMES[kind]
@@ -109,20 +122,12 @@ class Runner:
         if kind == "choose" or kind == "show":
             return worth[0] == "number"
         if kind == "open":
-            return self.sort_of(worth) == "pair"
+            return sort_of(worth, self.things) == "pair"
         if kind == "call2":
-            return self.sort_of(held) in ("function", "kept")
+            return sort_of(held, self.things) in ("function", "kept")
         if kind == "work2":
-            return held[0] == worth[0] == "number" and is_number(worked(node.expression[1], held[1], worth[1]))
+            return is_workable(node.expression[1], held, worth)
         return True
-
-    def sort_of(self, worth):
-        """What a worth is: a number, function, pair or kept place."""
-        return "number" if worth[0] == "number" else self.things[worth[1]][0]
-
-    def ending(self, worth):
-        """How a run ends to which this worth comes."""
-        return worth if worth[0] == "number" else (self.sort_of(worth),)
 
     def step(self):
         """Do the next step; whether there was one."""
@@ -132,7 +137,7 @@ class Runner:
         if self.node is not None:
             action = EVALUATED[self.node.word]
         else:
-            action = TAKEN[self.frames[self.newest][0]]
+            action = TAKEN[self.frame_of(self.newest)[0]]
         self.kinds.append(action(self))
         self.note_born()
         return True
@@ -186,7 +191,7 @@ def evaluate_def(runner):
 def evaluate_keep(runner):
     """The place is kept, and the part is begun."""
     node = runner.node
-    place = runner.make(("kept", node, runner.newest))
+    place = runner.keep_place(node)
     runner.begin(node.parts[2], (node.expression[1], place, runner.names))
     return "keep"
 
@@ -241,7 +246,7 @@ def take_call(runner):
     _, _, _, held, _ = runner.take()
     called = runner.use(held)
     if called[0] == "kept":
-        runner.newest = called[2]
+        runner.enter_place(held[1])
         runner.give(runner.worth)
         return "enter"
     _, node, names = called

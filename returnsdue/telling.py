@@ -1,6 +1,10 @@
 """What is told of a run at a moment: its control, and all that can be reached from there."""
 
 from returnsdue.stepper import body_of, name_of, worth_of
+from returnsdue.worths import sort_of
+
+KINDS_EVALUATED = {"name": "look", "number": "hold", "fun": "hold", "def": "def", "keep": "keep"}
+KINDS_TAKEN = {"let": "let", "open": "open", "choose": "choose", "work2": "work", "show": "show", "pair2": "hold"}
 
 
 def told_names(names, chain):
@@ -28,6 +32,18 @@ def names_waiting(kind, node):
     if kind == "choose":
         return tuple(sorted(set(node.free_of(2) + node.free_of(3))))
     return ()
+
+
+def step_ahead(runner):
+    """The kind of the next step and the path of its node; None if the run is over."""
+    if runner.ended is not None:
+        return None
+    if runner.node is not None:
+        return (KINDS_EVALUATED[runner.node.word], runner.node.path)
+    kind, node, _, held, _ = runner.frame_of(runner.newest)
+    if kind == "call2":
+        return ("enter" if sort_of(held, runner.things) == "kept" else "call", node.path)
+    return (KINDS_TAKEN[kind], node.path)
 
 
 def told_frame(row):
@@ -76,7 +92,10 @@ def reached_from_thing(row):
 
 
 def told_state(runner):
-    """The state of a run: control, top, frames, things, shown."""
+    """The state of a run: control, top, frames, things, shown.
+
+    A frame that the run does not hold any more is left out, and so is what only it reaches.
+    """
     control = told_control(runner)
     frames = {}
     things = {}
@@ -84,8 +103,10 @@ def told_state(runner):
     while waiting:
         word, birth = waiting.pop()
         if word == "frame" and birth is not None and birth not in frames:
-            frames[birth] = told_frame(runner.frames[birth])
-            waiting.extend(reached_from_frame(frames[birth]))
+            row = runner.frame_of(birth)
+            if row is not None:
+                frames[birth] = told_frame(row)
+                waiting.extend(reached_from_frame(frames[birth]))
         if word == "thing" and birth not in things:
             things[birth] = told_thing(runner.things[birth])
             waiting.extend(reached_from_thing(things[birth]))

@@ -564,6 +564,7 @@ class Checker:
         if isinstance(target, ast.ClassDef):
             called = isinstance(parent, ast.Call) and parent.func is node
             within = isinstance(parent, (ast.ClassDef, ast.ExceptHandler)) or is_kind_place(file, node)
+            within = within or isinstance(parent, ast.Tuple) and isinstance(file.parents[parent], ast.ExceptHandler)
             begun = isinstance(parent, ast.Attribute) and parent.attr == "__init__"
             if not called and not within and not begun:
                 self.tell("L18", file.name, node.lineno, f"the class {node.id} is used as a value")

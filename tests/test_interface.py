@@ -32,8 +32,51 @@ FUNCTIONS = {
         "least_held": ["program"], "copying": ["program"], "told_ahead": ["program", "value"],
     },
     "codes": {"is_code": ["value"]},
+    "loader": {"fits": ["code"], "ways": ["code"], "heights": ["code"], "sets": ["code"]},
+    "codemachine": {
+        "run_code": ["code", "most"], "code_steps": ["code", "most"], "run_over": ["code", "most", "pile"],
+        "returned": ["code", "most"],
+    },
+    "store": {"store": ["code", "moment"], "reach": ["code", "moment"], "holders": ["code", "moment"]},
+    "collector": {"run_kept": ["code", "most", "plan"]},
+    "compiler": {"compiled": ["program"]},
+    "roads": {
+        "returns": ["program"], "entries": ["program"], "returns_to": ["program", "moment", "birth"],
+        "entries_of": ["program", "moment", "place"], "roads": ["program", "moment", "birth"],
+        "is_road": ["program", "moment", "birth", "value"],
+    },
+    "texts": {
+        "text": ["expression"], "read": ["text", "names"], "offers": ["text", "names"], "completed": ["text", "names"],
+        "laid": ["expression", "width"],
+    },
+    "journals": {
+        "is_deed": ["value"], "done": ["session", "deed"], "inverse": ["session", "deed"], "journal": ["program", "deeds"],
+        "recovered": ["text"], "folded": ["text"],
+    },
 }
-CLASSES = {"piles": {"Copied": ([], PILE), "Shared": ([], PILE), "Split": ([], PILE), "Led": (["dues"], PILE)}}
+CODE_MACHINE = {"ahead": [], "step": [], "shown": [], "end": [], "counts": []}
+MACHINE = {
+    "step": [], "ahead": [], "end": [], "shown": [], "births": [], "held": [], "state": [], "turn": ["word"],
+}
+SESSION = {
+    "sight": [], "where": [], "dues": [], "state": [], "held": [], "lead": ["machine"], "fore": ["many"], "back": ["many"],
+    "to": ["moment"], "next_return": ["birth"], "last_return": ["birth"], "next_show": [], "last_show": [],
+    "stop": ["path"], "unstop": ["path"], "stops": [], "next_stop": [], "last_stop": [],
+}
+CLASSES = {
+    "piles": {"Copied": ([], PILE), "Shared": ([], PILE), "Split": ([], PILE), "Led": (["dues"], PILE)},
+    "codemachine": {"CodeMachine": (["code"], CODE_MACHINE)},
+    "machines": {"Machine": (["program", "word"], MACHINE)},
+    "debugger": {"Session": (["program", "machine"], SESSION)},
+}
+DEFAULTS = {
+    ("texts", "read", "names"): (), ("texts", "offers", "names"): (), ("texts", "completed", "names"): (),
+    ("debugger", "Session", "machine"): "plain",
+}
+ATTRIBUTES = {
+    ("codemachine", "CodeMachine"): ["moment"], ("machines", "Machine"): ["moment", "word", "copied"],
+    ("debugger", "Session"): ["program", "machine", "moment", "length"],
+}
 
 
 def defined(module):
@@ -61,6 +104,23 @@ class InterfaceTest(unittest.TestCase):
                     for method, wanted in methods.items():
                         self.assertIn(method, vars(own))
                         self.assertEqual(list(inspect.signature(vars(own)[method]).parameters), ["self", *wanted])
+
+
+    def test_defaults(self):
+        for (module, name, parameter), wanted in DEFAULTS.items():
+            own = getattr(importlib.import_module("returnsdue." + module), name)
+            self.assertEqual(inspect.signature(own).parameters[parameter].default, wanted)
+        own = importlib.import_module("returnsdue.debugger").Session
+        for method in (own.fore, own.back):
+            self.assertEqual(inspect.signature(method).parameters["many"].default, 1)
+
+    def test_attributes_are_set_when_an_object_is_created(self):
+        given = {"CodeMachine": [((0, 0, (("number", 1), ("return",))),)], "Machine": [("number", 1), "split"],
+                 "Session": [("number", 1)]}
+        for (module, name), wanted in ATTRIBUTES.items():
+            made = getattr(importlib.import_module("returnsdue." + module), name)(*given[name])
+            for attribute in wanted:
+                self.assertIn(attribute, vars(made))
 
 
 if __name__ == "__main__":
