@@ -1,7 +1,6 @@
 """Beginnings of texts completed: what is told next in the shortest going on, of several the least."""
 
-from returnsdue.reading import items_begun
-from returnsdue.shapes import BINDERS, LENGTHS
+from returnsdue.reading import many_items
 from returnsdue.terms import LETTERS, is_name
 
 
@@ -21,28 +20,20 @@ def next_signs(reader):
     if reader.word == "-":
         return "1"
     names = [name for name in reader.scope() if name.startswith(reader.word)]
-    return shortest(names)[len(reader.word):]
+    return least([(len(name), name) for name in names])[len(reader.word):]
 
 
-def shortest(texts):
-    """The shortest of these texts, of several the least."""
-    return min([(len(one), one) for one in texts])[1]
+def least(pairs):
+    """The text of the least of these pairs of a length and a text."""
+    return min(pairs)[1]
 
 
 def head_completed(reader):
-    """The head with which the expression that is being told can be ended soonest."""
-    told = shortest([expression_told(head) for head in reader.heads()])
-    return told.partition(" ")[0]
+    """The head with which the expression that is being told can be ended soonest.
 
-
-def expression_told(head):
-    """The words of the shortest expression with this head, with blanks between."""
-    items = items_begun(head)
-    words = [head]
-    letters = list(LETTERS)
-    for at in range(len(items), LENGTHS[items[0]]):
-        words.append(letters.pop(0) if at in BINDERS[items[0]] else "0")
-    return " ".join(words)
+    Each name and each part behind it takes a blank and one sign at least.
+    """
+    return least([(len(head) + 2 * many_items(head), head) for head in reader.heads()])
 
 
 def letter_added(reader):

@@ -1,7 +1,7 @@
 """A debugger that goes back and forth in the run of a program."""
 
-from returnsdue.errors import BadBirth, BadMany, BadMoment, BadWord, NotTold
-from returnsdue.leading import CODE, LEADERS, kind_ahead, leader
+from returnsdue.errors import BadBirth, BadMany, BadMoment, NotTold
+from returnsdue.leading import CODE, kind_ahead, leader
 from returnsdue.terms import check_path, check_program
 from returnsdue.tracks import Track
 from returnsdue.wholes import is_natural
@@ -15,7 +15,6 @@ class Session:
 
     def __init__(self, program, machine="plain"):
         check_program(program)
-        check_leader(machine)
         self.leader = leader(program, machine)
         self.track = Track(program)
         self.program = program
@@ -53,7 +52,6 @@ class Session:
 
     def lead(self, machine):
         """Go on with another machine at the same moment; the word of the one up to now."""
-        check_leader(machine)
         self.leader = self.led_to(leader(self.program, machine), self.moment)
         before = self.machine
         self.machine = machine
@@ -147,12 +145,6 @@ class Session:
     def last_stop(self):
         """Go back to the last moment at which the next step was that of a stop."""
         return self.move_below(self.track.moments_at(self.paths_stopped))
-
-
-def check_leader(word):
-    """Refuse what is no word of a machine that leads sessions."""
-    if not isinstance(word, str) or word not in LEADERS:
-        raise BadWord("this is no word of a machine")
 
 
 def check_many(many):

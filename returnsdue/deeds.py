@@ -1,8 +1,8 @@
 """Deeds: lines that tell what a session is to do."""
 
 from returnsdue.leading import LEADERS
+from returnsdue.reading import DIGITS
 
-FIGURES = "0123456789"
 MOST_FIGURES = 9
 OF_NOTHING = ("next show", "last show", "next stop", "last stop")
 OF_NUMBERS = ("fore", "back", "to", "next return", "last return")
@@ -14,7 +14,7 @@ def is_number_told(word):
     if not 1 <= len(word) <= MOST_FIGURES or (word[0] == "0" and word != "0"):
         return False
     for figure in word:
-        if figure not in FIGURES:
+        if figure not in DIGITS:
             return False
     return True
 

@@ -2,6 +2,7 @@
 
 from returnsdue.codemachine import CodeMachine
 from returnsdue.compiler import compiled
+from returnsdue.errors import BadWord
 from returnsdue.machines import Machine
 from returnsdue.stepper import Runner
 from returnsdue.telling import step_ahead, told_state
@@ -47,7 +48,9 @@ class PlainMachine:
 
 
 def leader(program, word):
-    """The machine with this word, at the beginning of the run of a program."""
+    """The machine with this word, at the beginning of the run of a program; refused if there is none."""
+    if not isinstance(word, str) or word not in LEADERS:
+        raise BadWord("this is no word of a machine")
     if word == PLAIN:
         return PlainMachine(program)
     if word == CODE:

@@ -10,9 +10,10 @@ from returnsdue.errors import BadCode, Misfit
 
 LEAST_HEIGHTS = {"let": 1, "open": 1, "choose": 1, "show": 1, "pair": 2, "work": 2, "call": 2}
 EXACT_HEIGHTS = {"last": 2, "return": 1, "keeplast": 0}
+# How many worths more lie on the pile behind a row from which all ways go on with the next place.
 CHANGES = {
     "number": 1, "slot": 1, "held": 1, "self": 1, "fun": 1, "def": 0, "let": -1, "open": -1, "drop": 0,
-    "choose": -1, "go": 0, "pair": -1, "work": -1, "show": 0, "call": -1, "keep": 1, "keeplast": 0,
+    "pair": -1, "work": -1, "show": 0, "call": -1, "keeplast": 0,
 }
 # The indexes at which a row tells the slots that it sets.
 SETTING = {"let": (1,), "open": (1, 2), "def": (3,), "keep": (1,), "keeplast": (1,)}

@@ -22,6 +22,12 @@ def items_begun(head):
     return ["work", head] if head in WORKS else [head]
 
 
+def many_items(head):
+    """How many names and parts stand behind this head."""
+    items = items_begun(head)
+    return LENGTHS[items[0]] - len(items)
+
+
 def many_parts(head):
     """How many parts an expression with this head has."""
     return len(PARTS["work" if head in WORKS else head])
@@ -141,7 +147,7 @@ class Reader:
 
     def can_open(self):
         """Whether there are levels and nodes for one more bracket behind the word being told."""
-        parts = many_parts(self.word) if self.word and self.wanted() == "head" else 0
+        parts = many_parts(self.word) if self.wanted() == "head" else 0
         return len(self.brackets) + 2 <= MOST_ROW and self.has_room(parts + 1)
 
     def take(self, sign):

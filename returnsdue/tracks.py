@@ -29,12 +29,12 @@ class Track:
 
     def dues_at(self, moment):
         """The dict from the births of the frames that still get returns to how many."""
+        born = self.frames_born(moment)
         due = {}
-        for birth in range(self.frames_born(moment)):
-            many = len([at for at in self.returns_of(birth) if at > moment])
-            if many > 0:
-                due[birth] = many
-        return due
+        for at, birth in self.trail.taken:
+            if at > moment and birth < born:
+                due[birth] = due.get(birth, 0) + 1
+        return {birth: due[birth] for birth in sorted(due)}
 
     def returns_of(self, birth):
         """The moments of the steps that return to a frame."""

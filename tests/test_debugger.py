@@ -12,7 +12,7 @@ from returnsdue.roads import returns
 from returnsdue.running import run, state, steps
 from returnsdue.terms import is_program, paths
 from tests.programs import (
-    BY_HAND, ENDLESS, ENTERED, STUCK, TWICE, call, loop, name, number, of_steps, random_programs,
+    BY_HAND, ENDLESS, ENTERED, STUCK, TWICE, loop, name, number, of_steps, random_programs,
 )
 from tests.reference import Reference
 from tests.test_machines import DEEP, ENTERED_BEHIND_FRAMES, is_billed, no_due, without
