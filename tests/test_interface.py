@@ -53,6 +53,18 @@ FUNCTIONS = {
         "is_deed": ["value"], "done": ["session", "deed"], "inverse": ["session", "deed"], "journal": ["program", "deeds"],
         "recovered": ["text"], "folded": ["text"],
     },
+    "packing": {"packed": ["value"], "unpacked": ["text"]},
+    "followbills": {
+        "uses_following": ["uses", "told"], "calls_following": ["returns", "told"], "steps_following": ["program", "bill"],
+        "bill_following": ["program", "bill"], "followers": ["program", "bill"], "is_single": ["program", "bill"],
+    },
+    "following": {
+        "spare": ["program"], "following": ["program"], "moments_following": ["program", "most"], "back": ["program"],
+    },
+    "idle": {
+        "due": ["code", "moment", "most"], "idle": ["code", "moment", "most"], "run_without": ["code", "most", "gone"],
+        "least_store": ["code", "most"],
+    },
 }
 CODE_MACHINE = {"ahead": [], "step": [], "shown": [], "end": [], "counts": []}
 MACHINE = {
@@ -68,14 +80,15 @@ CLASSES = {
     "codemachine": {"CodeMachine": (["code"], CODE_MACHINE)},
     "machines": {"Machine": (["program", "word"], MACHINE)},
     "debugger": {"Session": (["program", "machine"], SESSION)},
+    "desk": {"Desk": (["journal"], {"say": ["line"]})},
 }
 DEFAULTS = {
     ("texts", "read", "names"): (), ("texts", "offers", "names"): (), ("texts", "completed", "names"): (),
-    ("debugger", "Session", "machine"): "plain",
+    ("debugger", "Session", "machine"): "plain", ("desk", "Desk", "journal"): "",
 }
 ATTRIBUTES = {
     ("codemachine", "CodeMachine"): ["moment"], ("machines", "Machine"): ["moment", "word", "copied"],
-    ("debugger", "Session"): ["program", "machine", "moment", "length"],
+    ("debugger", "Session"): ["program", "machine", "moment", "length"], ("desk", "Desk"): ["journal", "session"],
 }
 
 
@@ -116,7 +129,7 @@ class InterfaceTest(unittest.TestCase):
 
     def test_attributes_are_set_when_an_object_is_created(self):
         given = {"CodeMachine": [((0, 0, (("number", 1), ("return",))),)], "Machine": [("number", 1), "split"],
-                 "Session": [("number", 1)]}
+                 "Session": [("number", 1)], "Desk": []}
         for (module, name), wanted in ATTRIBUTES.items():
             made = getattr(importlib.import_module("returnsdue." + module), name)(*given[name])
             for attribute in wanted:
