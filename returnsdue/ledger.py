@@ -8,7 +8,7 @@ row in the trail.
 
 from returnsdue.shapes import names_bound
 from returnsdue.sized import built
-from returnsdue.stepper import name_of
+from returnsdue.stepper import Runner, Trail, name_of
 
 
 class Use:
@@ -64,6 +64,17 @@ class Ledger:
         """The row of the body begun by a use that is a call; None of another use."""
         return use.row + 1 if use.word == "call" else None
 
+    def uses_of_def(self, row, name):
+        """The uses of the function of a def that is begun in a row, those by its kids behind the others."""
+        uses = list(self.need(row + 1, name))
+        at = 0
+        while at < len(uses):
+            kid = self.kid(uses[at])
+            if kid is not None:
+                uses.extend(self.need(kid, name))
+            at += 1
+        return uses
+
     def kid_trees(self, kids):
         """The sized tuple of the trees of these kids."""
         return built([None if kid is None else self.trees[kid] for kid in kids])
@@ -90,6 +101,14 @@ class Ledger:
         kind, node, _, held, _ = self.runner.frames[birth]
         uses = GIVEN[kind]
         return uses(self, row, node, held)
+
+
+def ledger_of(program):
+    """The ledger of the whole run of a program, which comes to an end."""
+    runner = Runner(program, Trail())
+    while runner.step():
+        pass
+    return Ledger(runner)
 
 
 def demands_of(uses):
@@ -190,15 +209,9 @@ def begun_fun(ledger, row, node):
 
 
 def begun_def(ledger, row, node):
-    """A def has a kid for each use of its function, those by its kids behind the others."""
+    """A def has a kid for each use of its function."""
     itself = node.expression[1]
-    uses = list(ledger.need(row + 1, itself))
-    kids = []
-    while len(kids) < len(uses):
-        kid = ledger.kid(uses[len(kids)])
-        kids.append(kid)
-        if kid is not None:
-            uses.extend(ledger.need(kid, itself))
+    kids = [ledger.kid(use) for use in ledger.uses_of_def(row, itself)]
     last = together([ledger.needs[row + 1]], (itself,))
     needs = together([last, ledger.kid_needs(kids, (itself, name_of(node)))], ())
     tree = ["def", ledger.kid_trees(kids), ledger.trees[row + 1]]

@@ -36,8 +36,8 @@ def steps(program, most):
     return tuple(started(program, most).kinds)
 
 
-def state(program, moment):
-    """The state of a run at a moment: control, top, frames, things, shown."""
+def led_to(program, moment):
+    """The run of a program at a moment; refused if it has no such moment."""
     check_program(program)
     if not is_natural(moment) or moment > MOST_STEPS:
         raise BadMoment("this is no moment of a run")
@@ -45,4 +45,9 @@ def state(program, moment):
     run_on(runner, moment)
     if runner.moment < moment:
         raise BadMoment("the run has fewer steps")
-    return told_state(runner)
+    return runner
+
+
+def state(program, moment):
+    """The state of a run at a moment: control, top, frames, things, shown."""
+    return told_state(led_to(program, moment))

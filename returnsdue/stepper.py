@@ -70,6 +70,10 @@ class Runner:
         """The row of the frame with this birth, None if it is not held."""
         return self.frames[birth]
 
+    def thing_of(self, birth):
+        """The row of the thing with this birth, None if it is not held."""
+        return self.things[birth]
+
     def keep_place(self, node):
         """Keep the place with the frames that wait now; its worth."""
         return self.make(("kept", node, self.newest))
@@ -78,14 +82,23 @@ class Runner:
         """Let the frames of the kept place with this birth wait in the place of those that do."""
         self.newest = self.things[birth][2]
 
+    def next_thing(self):
+        """The worth of the thing that is made next."""
+        return ("thing", len(self.things))
+
     def make(self, row):
         """Make a thing; its worth."""
+        made = self.next_thing()
         self.things.append(row)
-        return ("thing", len(self.things) - 1)
+        return made
+
+    def meet(self, worth):
+        """Look at what has to be there when a worth is given; here all is there."""
 
     def give(self, worth):
         """Give a worth to the top frame, or end."""
         self.node = None
+        self.meet(worth)
         if self.trail is not None:
             self.trail.log.append(("give", self.newest, worth))
         if self.newest is None:
@@ -181,7 +194,7 @@ def evaluate_fun(runner):
 def evaluate_def(runner):
     """A function is made that has itself, and the last part is begun."""
     node = runner.node
-    itself = ("thing", len(runner.things))
+    itself = runner.next_thing()
     names = (node.expression[1], itself, runner.names)
     runner.make(("function", node, names))
     runner.begin(node.parts[4], names)

@@ -46,6 +46,11 @@ def step_ahead(runner):
     return (KINDS_TAKEN[kind], node.path)
 
 
+def names_of_function(node):
+    """The ascending names that are free in the body of the functions of a fun or def, their own aside."""
+    return tuple([name for name in body_of(node).free if name != name_of(node)])
+
+
 def told_frame(row):
     """A row of frames as state tells it."""
     kind, node, names, worth, below = row
@@ -56,8 +61,7 @@ def told_thing(row):
     """A row of things as state tells it."""
     if row[0] == "function":
         _, node, names = row
-        free = [name for name in body_of(node).free if name != name_of(node)]
-        return ("function", node.path, told_names(free, names))
+        return ("function", node.path, told_names(names_of_function(node), names))
     if row[0] == "pair":
         return ("pair", row[2], row[3])
     return ("kept", row[2])
@@ -94,7 +98,7 @@ def reached_from_thing(row):
 def told_state(runner):
     """The state of a run: control, top, frames, things, shown.
 
-    A frame that the run does not hold any more is left out, and so is what only it reaches.
+    A frame or thing that the run does not hold is left out, and so is what only it reaches.
     """
     control = told_control(runner)
     frames = {}
@@ -108,8 +112,10 @@ def told_state(runner):
                 frames[birth] = told_frame(row)
                 waiting.extend(reached_from_frame(frames[birth]))
         if word == "thing" and birth not in things:
-            things[birth] = told_thing(runner.things[birth])
-            waiting.extend(reached_from_thing(things[birth]))
+            row = runner.thing_of(birth)
+            if row is not None:
+                things[birth] = told_thing(row)
+                waiting.extend(reached_from_thing(things[birth]))
     return (control, runner.newest, ascending(frames), ascending(things), tuple(runner.numbers))
 
 
