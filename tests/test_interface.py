@@ -65,6 +65,19 @@ FUNCTIONS = {
         "due": ["code", "moment", "most"], "idle": ["code", "moment", "most"], "run_without": ["code", "most", "gone"],
         "least_store": ["code", "most"],
     },
+    "pictures": {
+        "is_picture": ["value"], "picture_at": ["program", "moment"], "onward": ["picture", "many"], "rest": ["picture", "most"],
+        "wanted": ["picture"], "without": ["picture", "frames", "things"],
+    },
+    "images": {"image": ["picture"], "read_image": ["text"]},
+    "letting": {"run_letting_go": ["program", "gifts", "most"], "run_with_dues": ["program", "dues", "most"]},
+    "sources": {"plain_names": ["program"], "source_of": ["code"]},
+    "passing": {
+        "passes": ["program"], "passed": ["program", "word", "path"], "gain": ["program", "bill", "word", "path"],
+        "bill_passed": ["program", "bill", "word", "path"], "done": ["program", "row"], "last_form": ["program"],
+        "are_last": ["program", "value"], "shortened": ["program", "bill"],
+    },
+    "walking": {"in_time": ["program", "value"], "dues": ["program", "value"]},
 }
 CODE_MACHINE = {"ahead": [], "step": [], "shown": [], "end": [], "counts": []}
 MACHINE = {
