@@ -39,8 +39,8 @@ class Uses:
             self.runner.step()
             if used is not None:
                 self.used.append((self.runner.moment, used))
-            for birth in self.runner.pile.taken[len(self.taken):]:
-                self.taken.append((self.runner.moment, birth))
+            popped = self.runner.pile.popped[len(self.taken):]
+            self.taken.extend([(self.runner.moment, birth) for birth in popped])
             self.note_born()
 
     def moments_born(self, at):

@@ -5,9 +5,11 @@ tree returns its needs, or None if the tree is no bill.
 """
 
 from returnsdue.demands import is_good_end
+from returnsdue.errors import BadBill
 from returnsdue.nodes import planted
 from returnsdue.shapes import names_bound
 from returnsdue.stepper import body_of, name_of
+from returnsdue.terms import check_program
 from returnsdue.trees import read_tree
 from returnsdue.wholes import is_number, worked
 
@@ -249,6 +251,15 @@ FITS = {
     "call": fit_call, "let": fit_binding, "open": fit_binding, "choose": fit_binding,
     "work": fit_work, "show": fit_show, "pair": fit_pair,
 }
+
+
+def fitted_bill(table, program, bill):
+    """The tree of the bill of a program; other values are refused."""
+    check_program(program)
+    tree = fitted_program(table, program, bill)
+    if tree is None:
+        raise BadBill("this is no bill of the program")
+    return tree
 
 
 def fitted_program(table, program, value):

@@ -3,11 +3,10 @@
 from returnsdue.counts import no_counts
 from returnsdue.demandtable import Demands
 from returnsdue.demands import is_good_end, is_returns, is_uses
-from returnsdue.errors import BadBill, BadReturns, BadTold, BadUses
-from returnsdue.fitting import fitted_program
+from returnsdue.errors import BadReturns, BadTold, BadUses
+from returnsdue.fitting import fitted_bill
 from returnsdue.starring import Stars, bill_starred
 from returnsdue.stepper import FIRST_FRAMES
-from returnsdue.terms import check_program
 from returnsdue.trees import all_trees, lines_of
 
 WITH_SECOND = ("call", "work", "pair")
@@ -37,15 +36,6 @@ def calls_following(returns, told):
     table = Demands()
     numbers = table.read_returns(returns)
     return Stars(table, told).calls(numbers)
-
-
-def fitted_bill(table, program, bill):
-    """The tree of the bill of a program; any other value is refused."""
-    check_program(program)
-    tree = fitted_program(table, program, bill)
-    if tree is None:
-        raise BadBill("this is no bill of the program")
-    return tree
 
 
 def steps_following(program, bill):

@@ -76,11 +76,11 @@ def moments_following(program, most):
 
 
 def followers_made(runner):
-    """For how many rows of a run's log the translation's run makes a follower."""
+    """For how many rows of the log of a run that is not over the translation's run makes a follower."""
     many = 0
     for word, what, _ in runner.trail.log:
         if word == "begin":
             many += 1 if what.word in FIRST_FRAMES else 0
-        elif what is not None and runner.frame_of(what)[0] in SECOND_FRAMES:
+        elif runner.frame_of(what)[0] in SECOND_FRAMES:
             many += 1
     return many

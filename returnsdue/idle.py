@@ -97,7 +97,6 @@ def run_without(code, most, gone):
         by_moments[moment] = [*by_moments.get(moment, []), (word, birth)]
     runner = CodeRunner(code, Rows())
     things_away = {}
-    take_away(runner, by_moments.get(0, []), things_away)
     while runner.moment < most and runner.ended is None:
         step_on(runner)
         take_away(runner, by_moments.get(runner.moment, []), things_away)

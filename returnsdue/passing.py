@@ -2,8 +2,8 @@
 
 from returnsdue.counts import KINDS, counted
 from returnsdue.demandtable import Demands
-from returnsdue.errors import BadBill, BadPass, BadPasses
-from returnsdue.fitting import fitted_program
+from returnsdue.errors import BadPass, BadPasses
+from returnsdue.fitting import fitted_bill
 from returnsdue.ledger import ledger_of
 from returnsdue.plainnames import plainly_named
 from returnsdue.shortening import PASSES, after_first_pass, after_pass, passes_in
@@ -39,15 +39,6 @@ def passed_right(program, word, path):
     return made
 
 
-def fitted_bill(program, bill):
-    """The tree of the bill of a program; any other value is refused."""
-    check_program(program)
-    tree = fitted_program(Demands(), program, bill)
-    if tree is None:
-        raise BadBill("this is no bill of the program")
-    return tree
-
-
 def bill_of(ledger):
     """The bill that a ledger has come to."""
     return (ledger.runner.ended, ledger.trees[0].value)
@@ -62,13 +53,13 @@ def lines_more(tree, ledger):
 
 def gain(program, bill, word, path):
     """How many lines of each kind a bill has more than that of what comes of a pass."""
-    tree = fitted_bill(program, bill)
+    tree = fitted_bill(Demands(), program, bill)
     return lines_more(tree, ledger_of(passed_right(program, word, path)))
 
 
 def bill_passed(program, bill, word, path):
     """The bill of what comes of a pass, however many lines it has."""
-    fitted_bill(program, bill)
+    fitted_bill(Demands(), program, bill)
     return bill_of(ledger_of(passed_right(program, word, path)))
 
 
@@ -112,7 +103,7 @@ def are_last(program, value):
 
 def shortened(program, bill):
     """The last form of a program, its bill, and how many lines of each kind that has less."""
-    tree = fitted_bill(program, bill)
+    tree = fitted_bill(Demands(), program, bill)
     form = last_form_of(program)
     ledger = ledger_of(form)
     return (form, bill_of(ledger), lines_more(tree, ledger))

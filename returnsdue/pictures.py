@@ -38,7 +38,7 @@ def onward(picture, many):
     check_picture(picture)
     check_most(many)
     runner = Resumed(picture)
-    runner.go_on(many)
+    runner.go_further(many)
     return picture_of(runner)
 
 
@@ -48,7 +48,7 @@ def rest(picture, most):
     check_most(most)
     runner = Resumed(picture)
     shown_so_far = len(runner.numbers)
-    runner.go_on(most)
+    runner.go_further(most)
     end = ("more",) if runner.ended is None else runner.ended
     return (tuple(runner.numbers[shown_so_far:]), end, counted(runner.kinds))
 
@@ -57,7 +57,7 @@ def wanted(picture):
     """The picture with just those rows that the steps still to come look at."""
     check_picture(picture)
     runner = Resumed(picture)
-    runner.go_on(MOST_TRACED)
+    runner.go_further(MOST_TRACED)
     if runner.ended is None:
         raise TooMany(MOST_TRACED)
     _, _, frames, things, _ = picture[3]

@@ -94,7 +94,7 @@ class Resumed(Runner):
                 raise Gone("thing", worth[1])
             self.things_met[worth[1]] = True
 
-    def go_on(self, many):
+    def go_further(self, many):
         """Do the next steps, at most so many; a worth that waits counts as given in the first one."""
         last = self.moment + many
         if many > 0 and self.ended is None and self.node is None:

@@ -7,14 +7,14 @@ class Rows:
     """A pile by which a run of code is told: what its frames are, and which of them are given a worth.
 
     rows is a dict from births to pairs (frame, birth of the frame below or None); marks tell the
-    births of the top frames of the places kept; taken has the births that were taken off, in the
+    births of the top frames of the places kept; popped has the births that were taken off, in the
     order of time, and given how often each was. A frame whose birth is in away cannot be taken off.
     """
 
     def __init__(self):
         self.rows = {}
         self.given = []
-        self.taken = []
+        self.popped = []
         self.marks = []
         self.away = {}
         self.newest = None
@@ -34,7 +34,7 @@ class Rows:
         if self.newest in self.away:
             raise Gone("frame", self.newest)
         self.given[self.newest] += 1
-        self.taken.append(self.newest)
+        self.popped.append(self.newest)
         frame, below = self.rows[self.newest]
         self.newest = below
         return frame

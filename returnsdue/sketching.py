@@ -116,14 +116,14 @@ class Sketch:
             node = self.node_led_to(control[1], EVALUATED)
             return node is not None and self.are_names(control[2], node.free)
         if control[0] == "with" and len(control) == 2:
-            return top is not None and self.is_worth(control[1]) and self.is_taken(top, control[1])
+            return top is not None and self.is_worth(control[1]) and self.may_take(top, control[1])
         if control[0] != "end" or len(control) != 2:
             return False
         if control[1] == ("stuck",):
             return True
         return is_end(control[1]) and top is None and not self.frames and not self.things
 
-    def is_taken(self, top, worth):
+    def may_take(self, top, worth):
         """Whether the top frame, if it is told, takes a step with this worth."""
         if top not in self.frames:
             return True

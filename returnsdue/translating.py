@@ -77,7 +77,7 @@ def behind_second(e, names):
 
 def brought_back(program):
     """What a program is the translation of, if it is one; if it is none, any value may come."""
-    if program[0] != "call" or program[1][0] != "fun" or program[2][0] != "fun":
+    if program[0] != "call" or program[1][0] != "fun":
         return None
     return part_back(program[1][2], program[1][1], program[2][1])
 

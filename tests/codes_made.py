@@ -6,7 +6,7 @@ from returnsdue.codes import is_code
 from returnsdue.compiler import compiled
 from returnsdue.loader import fits
 from returnsdue.terms import is_program
-from tests.programs import BY_HAND, ENDLESS, STUCK, random_programs
+from tests.programs import BY_HAND, ENDLESS, STUCK, random_programs, returning_programs
 
 WORKS = ("plus", "minus", "times", "less", "same")
 
@@ -187,6 +187,6 @@ def changed_codes(seed, many, wanted):
     return found
 
 
-PROGRAMS = BY_HAND + [ENDLESS, STUCK] + random_programs(61, 80, is_program)
+PROGRAMS = BY_HAND + [ENDLESS, STUCK] + random_programs(61, 80, is_program) + returning_programs(62, 20, is_program)
 CODES_OF_PROGRAMS = [compiled(program) for program in PROGRAMS]
 CODES_OF_NONE = random_codes(62, 150) + changed_codes(63, 100, fits)

@@ -294,3 +294,56 @@ def of_tuples(many, bill):
         e = ("let", "z", inner, e)
         left -= more
     return e
+
+
+def counting(r):
+    """A pair of a number and a place that is entered again until the number is 0."""
+    return ("keep", "k", ("pair", number(r.randint(1, 3)), name("k")))
+
+
+def entering_functions(r, argument):
+    """A call whose first part returns a function again and again, and whose second part is begun each time."""
+    again = call(name("k"), call(name("g"), ("work", "minus", name("n"), number(1))))
+    made = ("def", "g", "n", ("fun", "z", ("choose", name("n"), again, ("work", "plus", name("z"), name("n")))), (
+        call(name("g"), number(r.randint(0, 3)))))
+    return call(("keep", "k", made), argument)
+
+
+def plain_part(r):
+    """A number, told in one of several ways."""
+    n = number(r.randint(0, 4))
+    return r.choice([n, n, ("show", n), call(IDENTITY, n), entering_functions(r, n), entering_functions(r, ("show", n)),
+                     ("keep", "h", call(name("h"), n)), ("work", "plus", n, ("show", n))])
+
+
+def many_returns(r, row):
+    """An expression that returns pairs as counting does, with other expressions that are returned to each time."""
+    if row == 0:
+        return counting(r)
+    inner = many_returns(r, row - 1)
+    n = plain_part(r)
+    x, y = r.sample("abcdef", 2)
+    some = ("work", "plus", name(y), name(y))
+    return r.choice([
+        ("open", ("pair", inner, n), x, y, name(x)), ("open", ("pair", n, inner), y, x, name(x)),
+        ("open", ("pair", inner, n), x, y, ("let", "u", some, name(x))), ("open", ("pair", n, inner), y, x, ("let", "u", some, name(x))),
+        call(IDENTITY, inner), call(("fun", x, ("let", y, n, name(x))), inner), call(("fun", y, inner), n), ("let", x, inner, name(x)),
+        ("let", x, inner, ("open", name(x), "v", "p", ("pair", name("v"), name("p")))), ("choose", n, inner, counting(r)),
+        ("open", inner, "v", "p", ("pair", ("show", name("v")), name("p"))), ("keep", "j", inner), ("keep", "j", call(name("j"), inner)),
+        ("def", y, x, inner, call(name(y), n)), call(("let", y, n, ("fun", x, name(x))), inner), ("let", y, n, inner),
+        call(call(("fun", x, ("fun", y, name(x))), inner), n), ("open", ("pair", inner, inner), x, y, name(r.choice([x, y]))),
+    ])
+
+
+def returning_programs(seed, many, is_program):
+    """So many programs whose parts return many times, used in another way each time."""
+    r = random.Random(seed)
+    found = []
+    while len(found) < many:
+        again = call(name("p"), ("pair", ("work", "minus", name("v"), number(1)), name("p")))
+        last = r.choice([name("v"), number(7), ("show", name("v")), ("pair", name("v"), name("p")), name("p"), IDENTITY])
+        e = ("open", many_returns(r, r.randint(0, 4)), "v", "p", ("choose", name("v"), again, last))
+        e = r.choice([e, e, ("let", "w", e, ("pair", name("w"), name("w"))), call(("fun", "w", name("w")), e)])
+        if is_program(e):
+            found.append(e)
+    return found

@@ -13,8 +13,8 @@ from returnsdue.ledger import Ledger
 from returnsdue.stepper import Runner, Trail
 from returnsdue.terms import is_program, paths
 from tests.programs import (
-    BY_HAND, ENDLESS, ENTERED, IDENTITY, STUCK, TWICE, call, chained, counted_down, loop, name, number, random_programs, summed,
-    variants)
+    BY_HAND, ENDLESS, ENTERED, IDENTITY, STUCK, TWICE, call, chained, counted_down, loop, name, number, random_programs,
+    returning_programs, summed, variants)
 from tests.test_following import plain_following
 from tests.values import ODD
 
@@ -37,7 +37,8 @@ def billed(programs):
     return found
 
 
-BILLED = billed(BY_HAND + [chained(57), summed(20), loop(12, name("v"))] + random_programs(75, 250, is_program))
+BILLED = billed(BY_HAND + [chained(57), summed(20), loop(12, name("v"))] + random_programs(75, 200, is_program)
+                + returning_programs(76, 100, is_program))
 
 
 def star(told):

@@ -10,11 +10,11 @@ from returnsdue.stepper import Runner
 from returnsdue.terms import is_program, paths, renamed
 from tests.programs import (
     BY_HAND, ENDLESS, ENTERED, IDENTITY, STUCK, TWICE, call, chained, counted_down, exchanged_at, loop, name, number, part_of,
-    paths_of, random_programs, summed, variants)
+    paths_of, random_programs, returning_programs, summed, variants)
 from tests.values import NO_WHOLES, ODD
 
 FIVE = number(5)
-PROGRAMS = BY_HAND + [ENDLESS, STUCK] + random_programs(71, 250, is_program)
+PROGRAMS = BY_HAND + [ENDLESS, STUCK] + random_programs(71, 220, is_program) + returning_programs(71, 30, is_program)
 BLOCKS = {
     "look": "look look call", "hold": "look hold call", "let": "", "def": "def", "keep": "hold hold call", "open": "look open",
     "choose": "look choose", "show": "look look show call", "work": "look look look work call",
@@ -268,7 +268,7 @@ class RunsTest(unittest.TestCase):
 
 class BackTest(unittest.TestCase):
     def test_no_translations(self):
-        for program in [FIVE, IDENTITY, call(IDENTITY, IDENTITY), TWICE, ENTERED, call(FIVE, FIVE), call(IDENTITY, FIVE),
+        for program in [FIVE, IDENTITY, call(IDENTITY, IDENTITY), TWICE, ENTERED, call(FIVE, FIVE), call(IDENTITY, FIVE), call(FIVE, IDENTITY),
                         call(("fun", "a", FIVE), ("fun", "b", name("b"))), call(("fun", "a", name("a")), ("fun", "b", name("b"))),
                         call(("fun", "a", call(name("a"), name("a"))), ("fun", "b", name("b"))), *BY_HAND]:
             self.assertRaises(BadFollowing, back, program)

@@ -9,7 +9,8 @@ from returnsdue.letting import run_letting_go, run_with_dues
 from returnsdue.running import run, state, steps
 from returnsdue.terms import is_program
 from tests.programs import (
-    BY_HAND, ENDLESS, ENTERED, IDENTITY, STUCK, TWICE, call, chained, counted_down, loop, name, number, random_programs, summed)
+    BY_HAND, ENDLESS, ENTERED, IDENTITY, STUCK, TWICE, call, chained, counted_down, loop, name, number, random_programs,
+    returning_programs, summed)
 from tests.reference import Reference
 from tests.test_followbills import billed
 from tests.test_idle import NO_GONE
@@ -78,7 +79,7 @@ class Losing(Reference):
         return (self.shown, self.end, {kind: self.kinds.count(kind) for kind in COUNTS})
 
 
-PROGRAMS = BY_HAND + [STUCK, ENDLESS, chained(30), summed(12)] + random_programs(35, 150, is_program)
+PROGRAMS = BY_HAND + [STUCK, ENDLESS, chained(30), summed(12)] + random_programs(35, 120, is_program) + returning_programs(35, 40, is_program)
 BILLED = [program for program, _ in billed(PROGRAMS)]
 
 

@@ -15,7 +15,7 @@ from returnsdue.stepper import Runner, Trail
 from returnsdue.terms import alike, is_program, paths, renamed
 from tests.programs import (
     BY_HAND, ENDLESS, ENTERED, IDENTITY, STUCK, TWICE, call, counted_down, exchanged_at, loop, name, number, part_of, random_programs,
-    variants)
+    returning_programs, variants)
 from tests.reference import PARTS, free, worked
 from tests.test_followbills import billed
 from tests.values import ODD
@@ -67,7 +67,7 @@ def padded(r, e):
 def padded_programs(seed, wanted):
     r = random.Random(seed)
     found = []
-    seeds = BY_HAND + random_programs(seed, 60, is_program)
+    seeds = BY_HAND + random_programs(seed, 60, is_program) + returning_programs(seed, 30, is_program)
     while len(found) < wanted:
         e = r.choice(seeds)
         for _ in range(r.randint(1, 5)):

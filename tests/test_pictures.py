@@ -8,7 +8,8 @@ from returnsdue.pictures import is_picture, onward, picture_at, rest, wanted, wi
 from returnsdue.running import run, state, steps
 from returnsdue.terms import is_program
 from tests.programs import (
-    BY_HAND, ENDLESS, ENTERED, IDENTITY, STUCK, TWICE, call, chained, counted_down, loop, name, number, of_steps, random_programs, summed)
+    BY_HAND, ENDLESS, ENTERED, IDENTITY, STUCK, TWICE, call, chained, counted_down, loop, name, number, of_steps, random_programs,
+    returning_programs, summed)
 from tests.reference import LIMIT, Reference, at_path, free, worked
 from tests.values import NO_WHOLES, ODD
 
@@ -16,7 +17,7 @@ STUCK_LATER = ("let", "x", ("show", number(1)), ("work", "plus", ("fun", "y", na
 STUCKS = [STUCK, STUCK_LATER, ("open", IDENTITY, "x", "y", number(1)), call(("pair", number(1), number(2)), number(3)), ("show", IDENTITY),
           ("choose", ("keep", "k", name("k")), number(1), number(2)), ("work", "times", number(10 ** 29), number(10)),
           ("open", number(1), "x", "y", number(1)), ("show", ("open", IDENTITY, "x", "y", number(1)))]
-PROGRAMS = BY_HAND + STUCKS + [ENDLESS, summed(5), chained(5)] + random_programs(106, 120, is_program)
+PROGRAMS = BY_HAND + STUCKS + [ENDLESS, summed(5), chained(5)] + random_programs(106, 100, is_program) + returning_programs(106, 20, is_program)
 KINDS = {"call1": "call", "call2": "call", "let": "let", "open": "open", "choose": "choose", "work1": "work", "work2": "work", "show": "show",
          "pair1": "pair", "pair2": "pair"}
 

@@ -12,15 +12,15 @@ from returnsdue.stepper import Runner, Trail
 from returnsdue.terms import is_program
 from returnsdue.walking import dues, in_time
 from tests.programs import (
-    BY_HAND, ENDLESS, ENTERED, IDENTITY, STUCK, TWICE, call, chained, counted_down, loop, name, number, random_programs, summed,
-    variants)
+    BY_HAND, ENDLESS, ENTERED, IDENTITY, STUCK, TWICE, call, chained, counted_down, loop, name, number, random_programs,
+    returning_programs, summed, variants)
 from tests.reference import at_path
 from tests.test_followbills import billed
 from tests.values import ODD
 
 FIVE = number(5)
 BILLED = billed(BY_HAND + [chained(57), summed(20), loop(12, name("v")), loop(12, ("pair", name("v"), name("p")))]
-                + random_programs(34, 300, is_program))
+                + random_programs(34, 200, is_program) + returning_programs(34, 150, is_program))
 FIRST = {"let": 2, "open": 1, "choose": 1, "show": 1, "call": 1, "work": 2, "pair": 1}
 KINDS_OF_ROWS = {"call": "call2", "enter": "call2", "work": "work2", "hold": "pair2", "let": "let", "open": "open",
                  "choose": "choose", "show": "show"}

@@ -24,11 +24,11 @@ from returnsdue.sources import plain_names, source_of
 from returnsdue.terms import is_program
 from returnsdue.texts import read, text
 from returnsdue.walking import dues, in_time
-from tests.programs import BY_HAND, ENDLESS, STUCK, chained, random_programs
+from tests.programs import BY_HAND, ENDLESS, STUCK, chained, random_programs, returning_programs
 from tests.test_passing import PADDED
 
 MOST = 300
-PROGRAMS = BY_HAND + [STUCK, ENDLESS, chained(57)] + PADDED[::5] + random_programs(1, 120, is_program)
+PROGRAMS = BY_HAND + [STUCK, ENDLESS, chained(57)] + PADDED[::5] + random_programs(1, 100, is_program) + returning_programs(1, 40, is_program)
 OVER = [program for program in PROGRAMS if run(program, MOST)[1] != ("more",)]
 
 
