@@ -47,8 +47,7 @@ def told_up_to(runner, moment, end):
 
 def told_plainly(runner, most):
     """As told_up_to, of a run in which nothing is missed within most steps."""
-    is_over = runner.ended is not None and runner.moment <= most
-    return told_up_to(runner, most, runner.ended if is_over else ("more",))
+    return told_up_to(runner, most, runner.ended if runner.moment <= most else ("more",))
 
 
 def events_of(runner):

@@ -1,6 +1,7 @@
 """Code read back into an expression, as it would have been laid.
 
-What comes must be laid again to be sure: not all that a block may have is looked at here.
+Only what would lead the reading astray is looked at here. So what comes, if it is a program at
+all, must be laid again to be sure.
 """
 
 from returnsdue.plainnames import Namer
@@ -21,9 +22,9 @@ class Source:
         self.row = 0
         self.is_sound = True
 
-    def check(self, is_sound):
-        """Note whether something is as it is in the code of a program."""
-        self.is_sound = self.is_sound and is_sound
+    def fail(self):
+        """Note that this is the code of no program."""
+        self.is_sound = False
 
 
 class Unlayer:
@@ -51,11 +52,11 @@ class Unlayer:
         self.stack = []
         self.ended_by = None
         self.source.row += 1
-        self.source.check(self.source.row <= MOST_ROW)
+        if self.source.row > MOST_ROW:
+            self.source.fail()
         while self.ended_by is None and self.source.is_sound:
             self.read_row(stop)
         self.source.row -= 1
-        self.source.check(len(self.stack) == 1)
         part = self.take_part()
         self.stack = around
         return part
@@ -65,7 +66,7 @@ class Unlayer:
         if self.place == stop:
             self.ended_by = "stop"
         elif self.place >= len(self.rows):
-            self.source.check(False)
+            self.source.fail()
         elif self.rows[self.place][0] in ("drop", "go"):
             self.ended_by = self.rows[self.place][0]
         else:
@@ -76,19 +77,16 @@ class Unlayer:
 
     def take_part(self):
         """The expression that was read last, which is taken away; None without one."""
-        self.source.check(len(self.stack) > 0)
         return self.stack.pop() if self.stack else None
 
-    def bind(self, slot):
-        """A new name that is bound in the next slot, which must be this one."""
-        self.source.check(slot == len(self.bound))
+    def bind(self):
+        """A new name that is bound in the next slot."""
         self.bound.append(self.source.namer.next_name())
         return self.bound[-1]
 
     def read_bound(self, many):
         """Read the part in which so many names are bound that were bound last."""
         part = self.read_part(None)
-        self.source.check(self.ended_by in ("drop", "last"))
         if self.ended_by == "drop":
             self.place += many
             self.ended_by = None
@@ -96,36 +94,28 @@ class Unlayer:
             self.bound.pop()
         return part
 
-    def read_kept(self, slot):
+    def read_kept(self):
         """Read a kept place and its part, which ends as the block does; the keep."""
-        name = self.bind(slot)
+        name = self.bind()
         part = self.read_part(None)
-        self.source.check(self.ended_by == "last")
         self.bound.pop()
         return ("keep", name, part)
 
     def read_body(self, number, picks, itself):
         """Read the block of a function; the name of its argument and its body."""
-        names = [self.name_of(pick) for pick in picks]
-        self.source.check(number == self.source.blocks_met)
-        if not self.source.is_sound:
+        if number != self.source.blocks_met:
+            self.source.fail()
             return (None, None)
         self.source.blocks_met += 1
-        inner = Unlayer(self.source, number, itself, names)
-        argument = inner.bind(0)
-        body = inner.read_part(None)
-        self.source.check(inner.ended_by == "last" and inner.place == len(inner.rows))
-        return (argument, body)
+        inner = Unlayer(self.source, number, itself, [self.name_of(pick) for pick in picks])
+        argument = inner.bind()
+        return (argument, inner.read_part(None))
 
     def name_of(self, row):
-        """The name that a slot, held or self row reaches."""
-        name = self.itself
+        """The name that a slot, held or self row reaches; None without one."""
         if row[0] == "slot":
-            name = self.bound[row[1]] if row[1] < len(self.bound) else None
-        if row[0] == "held":
-            name = self.held_names[row[1]]
-        self.source.check(name is not None)
-        return name
+            return self.bound[row[1]] if row[1] < len(self.bound) else None
+        return self.held_names[row[1]] if row[0] == "held" else self.itself
 
 
 def read_reach(block, row):
@@ -148,7 +138,6 @@ def read_def(block, row):
     """A function with a name."""
     itself = block.source.namer.next_name()
     argument, body = block.read_body(row[1], row[2], itself)
-    block.source.check(row[3] == len(block.bound))
     block.bound.append(itself)
     block.stack.append(("def", itself, argument, body, block.read_bound(1)))
 
@@ -156,15 +145,15 @@ def read_def(block, row):
 def read_let(block, row):
     """A worth put into a slot."""
     first = block.take_part()
-    name = block.bind(row[1])
+    name = block.bind()
     block.stack.append(("let", name, first, block.read_bound(1)))
 
 
 def read_open(block, row):
     """A pair whose parts are put into slots."""
     first = block.take_part()
-    one = block.bind(row[1])
-    other = block.bind(row[2])
+    one = block.bind()
+    other = block.bind()
     block.stack.append(("open", first, one, other, block.read_bound(2)))
 
 
@@ -176,9 +165,7 @@ def read_choose(block, row):
     if block.ended_by == "go":
         stop = block.rows[block.place][1]
         block.place += 1
-    block.source.check(block.ended_by in ("go", "last") and block.place == row[1])
     second = block.read_part(stop)
-    block.source.check(block.ended_by == ("last" if stop is None else "stop"))
     if stop is not None:
         block.ended_by = None
     block.stack.append(("choose", number, first, second))
@@ -186,15 +173,13 @@ def read_choose(block, row):
 
 def read_keep(block, row):
     """A kept place to which a worth comes back."""
-    found = block.read_kept(row[1])
-    block.source.check(block.place == row[2])
+    block.stack.append(block.read_kept())
     block.ended_by = None
-    block.stack.append(found)
 
 
 def read_keeplast(block, row):
     """A kept place with which the block ends."""
-    block.stack.append(block.read_kept(row[1]))
+    block.stack.append(block.read_kept())
 
 
 def read_pair(block, row):
@@ -235,8 +220,5 @@ READING = {
 
 
 def read_back(code):
-    """The program whose code a code may be; None if it is surely none's."""
-    source = Source(code)
-    block = Unlayer(source, 0, None, [])
-    part = block.read_part(None)
-    return part if source.is_sound and block.ended_by == "last" else None
+    """The program whose code a code is, if it is one's; otherwise any value may come."""
+    return Unlayer(Source(code), 0, None, []).read_part(None)

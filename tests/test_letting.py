@@ -126,6 +126,18 @@ class LettingGoTest(unittest.TestCase):
         self.assertEqual(run_letting_go(program, [(3, "thing", 0), (3, "frame", 0)], 99)[1], ("gone", "frame", 0))
         self.assertEqual(run_letting_go(program, [(3, "thing", 0)], 99)[1], ("gone", "thing", 0))
 
+    def test_an_entry_behind_which_a_worth_is_taken_at_once(self):
+        # At step 4 a call2 takes a worth, the place is entered, and the frame of the pair takes the worth at once.
+        program = ("pair", ("keep", "k", call(name("k"), number(1))), number(2))
+        self.assertEqual(steps(program, 99), ("keep", "look", "hold", "enter", "hold", "hold"))
+        gifts = [(3, "frame", 0), (3, "thing", 0), (3, "frame", 2)]
+        for some, end in ((gifts, ("gone", "frame", 2)), (gifts[:2], ("gone", "thing", 0)), (gifts[:1], ("gone", "frame", 0)),
+                          (gifts[1:2], ("gone", "thing", 0)), (gifts[::2], ("gone", "frame", 2))):
+            for turned in (some, some[::-1]):
+                shown, found, counts = run_letting_go(program, turned, 3)
+                self.assertEqual((found, sum(counts.values())), (end, 3))
+        self.assertEqual(run_letting_go(program, gifts, 2)[1], ("more",))
+
     def test_the_earliest_moment_counts(self):
         gifts = [(14, "thing", 0), (0, "thing", 0), (3, "thing", 0)]
         for some in (gifts, gifts[::-1], gifts + gifts):
