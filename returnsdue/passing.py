@@ -6,7 +6,7 @@ from returnsdue.errors import BadPass, BadPasses
 from returnsdue.fitting import fitted_bill
 from returnsdue.ledger import ledger_of
 from returnsdue.plainnames import plainly_named
-from returnsdue.shortening import PASSES, after_first_pass, after_pass, passes_in
+from returnsdue.shortening import after_first_pass, after_pass, passes_in
 from returnsdue.terms import check_program, is_leading, is_program
 from returnsdue.trees import lines_of
 
@@ -19,7 +19,7 @@ def passes(program):
 
 def passed_once(plain, word, path):
     """What comes of a pass, with plain names; None if it cannot be done, for any word and path."""
-    if not isinstance(word, str) or word not in PASSES or not is_leading(plain, path):
+    if not isinstance(word, str) or not is_leading(plain, path):
         return None
     made = after_pass(plain, word, path)
     return None if made is None else plainly_named(made)

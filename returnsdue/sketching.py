@@ -47,7 +47,7 @@ class Sketch:
 
     def is_worth(self, value):
         """Whether value is a worth."""
-        if not is_tuple_of(value, 2) or not isinstance(value[0], str):
+        if not is_tuple_of(value, 2):
             return False
         if value[0] == "number":
             return is_number(value[1])
@@ -58,9 +58,7 @@ class Sketch:
         if not is_tuple_of(value, len(names)):
             return False
         for pair, name in zip(value, names):
-            if not is_tuple_of(pair, 2) or not isinstance(pair[0], str):
-                return False
-            if pair[0] != name or not self.is_worth(pair[1]):
+            if not is_tuple_of(pair, 2) or pair[0] != name or not self.is_worth(pair[1]):
                 return False
         return True
 
@@ -110,14 +108,14 @@ class Sketch:
 
     def is_control(self, control, top):
         """Whether control may stand with this top, the rows being right."""
-        if not isinstance(control, tuple) or not control or not isinstance(control[0], str):
-            return False
-        if control[0] == "at" and len(control) == 3:
+        if is_tuple_of(control, 3) and control[0] == "at":
             node = self.node_led_to(control[1], EVALUATED)
             return node is not None and self.are_names(control[2], node.free)
-        if control[0] == "with" and len(control) == 2:
+        if not is_tuple_of(control, 2):
+            return False
+        if control[0] == "with":
             return top is not None and self.is_worth(control[1]) and self.may_take(top, control[1])
-        if control[0] != "end" or len(control) != 2:
+        if control[0] != "end":
             return False
         if control[1] == ("stuck",):
             return True

@@ -104,7 +104,6 @@ class Unlayer:
     def read_body(self, number, picks, itself):
         """Read the block of a function; the name of its argument and its body."""
         if number != self.source.blocks_met:
-            self.source.fail()
             return (None, None)
         self.source.blocks_met += 1
         inner = Unlayer(self.source, number, itself, [self.name_of(pick) for pick in picks])

@@ -24,6 +24,23 @@ def plain_tuple(picture):
     return (program, moment, born, control, top, ones, others, shown)
 
 
+def packed_shared(value):
+    """The packed text of a tuple in which tuples are shared so much that they cannot be gone through one by one."""
+    numbers, rows, met = {}, [], {}
+
+    def number_of(told):
+        if id(told) not in met:
+            row = " ".join("-" if item is None else "#" + str(number_of(item)) if isinstance(item, tuple) else str(item) for item in told)
+            if row not in numbers:
+                rows.append(row)
+                numbers[row] = len(rows)
+            met[id(told)] = numbers[row]
+        return met[id(told)]
+
+    number_of(value)
+    return "\n".join(rows)
+
+
 class ImageTest(unittest.TestCase):
     def test_by_hand(self):
         picture = picture_at(number(5), 0)
@@ -145,6 +162,15 @@ class ReadTest(unittest.TestCase):
             self.assertRaises(BadImage, read_image, value)
         rows = [""] + [f"#{at} #{at}" for at in range(1, 60)] + ["#60 0 #60 #60 - #60 #60 #60"]
         self.assertRaises(BadImage, read_image, "\n".join(rows))
+        # The same in the place of each part of rows, births among them.
+        plain = plain_tuple(picture_at(TWICE, 8))
+        many = ()
+        for _ in range(60):
+            many = (many, many)
+        for at in range(8):
+            for part in (many, (many,), ((many,),), ((many, many, many),), ((many, 5, (), (), None, None),), ((0, many, (), (), None, None),)):
+                near = plain[:at] + (part,) + plain[at + 1:]
+                self.assertRaises(BadImage, read_image, packed_shared(near))
 
     def test_with_rows_left_out(self):
         picture = without(picture_at(TWICE, 8), [0], [])

@@ -282,7 +282,7 @@ def moments_of(r, program, many):
 def changes(r, value, picture):
     """Values near a part of a picture: something in it left out, doubled, or exchanged for something of the same sort."""
     program, _, born, _ = picture
-    found = [None, (), True]
+    found = [None, (), True, [], {}]
     if isinstance(value, bool) or value is None:
         found += [0, ("number", 1), born[0] - 1, born[0]]
     elif isinstance(value, int):
@@ -364,6 +364,20 @@ class IsPictureTest(unittest.TestCase):
             self.assertTrue(is_picture(value) and Judge(value).right, value)
         for value in wrong:
             self.assertFalse(is_picture(value) or Judge(value).right, value)
+
+    def test_what_comes_of_a_work(self):
+        for word, held, worth, answer in [
+                ("times", 10 ** 29, 9, True), ("times", 10 ** 29, 10, False), ("times", -10 ** 15, 10 ** 15, False), ("plus", 10 ** 30 - 1, 0, True),
+                ("plus", 10 ** 30 - 1, 1, False), ("minus", 10 ** 30 - 1, -1, False), ("minus", -10 ** 30 + 1, 1, False), ("less", 10 ** 29, 10, True),
+                ("same", 10 ** 30 - 1, 10 ** 30 - 1, True)]:
+            program = ("work", word, number(1), number(2))
+            value = (program, 2, (2, 0), (("with", number(worth)), 1, {1: ("work2", (), (), number(held), None)}, {}, ()))
+            self.assertEqual((is_picture(value), Judge(value).right), (answer, answer))
+            if answer:
+                self.assertEqual(rest(value, 9)[1], number(worked(word, held, worth)))
+        for held, worth in ((("thing", 0), number(1)), (number(1), ("thing", 0)), (("thing", 0), ("thing", 0))):
+            value = (program, 2, (2, 1), (("with", worth), 1, {1: ("work2", (), (), held, None)}, {}, ()))
+            self.assertEqual((is_picture(value), Judge(value).right), (False, False))
 
     def test_rows_that_hang_together(self):
         # A pair that has itself is reached by nothing else; a function that has itself is.
@@ -602,6 +616,7 @@ class WithoutTest(unittest.TestCase):
         picture = picture_at(TWICE, 8)
         for wrong in [None, 1, "0", {}, {0: 1}, [None], [True], [0, False], ["0"], [(0,)], [0, [1]], {0}]:
             self.assertRaises(BadBirths, without, picture, wrong, None)
+            self.assertRaises(BadBirths, without, picture, wrong, [])
             self.assertRaises(BadBirths, without, picture, [0], wrong)
         for births in ([], (), [-5], [10 ** 29], [0, 0]):
             self.assertTrue(is_picture(without(picture, births, births)))

@@ -204,6 +204,18 @@ class SourceTest(unittest.TestCase):
             else:
                 self.assertIsNone(found)
 
+    def test_many_parts_that_are_not_deep(self):
+        def tree(part):
+            row = [part(at) for at in range(64)]
+            while len(row) > 1:
+                row = [("pair", *row[at:at + 2]) for at in range(0, len(row), 2)]
+            return row[0]
+
+        for program in (tree(lambda at: ("let", "x", number(at), name("x"))), tree(lambda at: ("fun", "x", name("x"))),
+                        tree(lambda at: ("keep", "x", number(at))), tree(lambda at: ("choose", number(at), number(1), number(2)))):
+            self.assertTrue(is_program(program))
+            self.assertEqual(source_of(compiled(program)), plain_names(program))
+
     def test_deep_functions(self):
         for many in (59, 60, 61, 400, 999):
             blocks = [(0, 0, (("fun", 1, ()), ("return",)))]
