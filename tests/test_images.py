@@ -54,7 +54,7 @@ class ImageTest(unittest.TestCase):
     def test_there_and_back_at_each_moment(self):
         r = random.Random(108)
         for program in PROGRAMS:
-            for moment in range(0, len(steps(program, 40)) + 1):
+            for moment in range(0, len(steps(program, 40)) + 1, 2):
                 whole = picture_at(program, moment)
                 for picture in (whole, gone_from(r, whole, 0.4)):
                     text = image(picture)
@@ -123,9 +123,9 @@ class ReadTest(unittest.TestCase):
         r = random.Random(1082)
         right = 0
         for program in PROGRAMS[::3]:
-            for moment in moments_of(r, program, 2):
+            for moment in moments_of(r, program, 1):
                 value = plain_tuple(picture_at(program, moment))
-                for _ in range(20):
+                for _ in range(15):
                     at = r.randrange(8)
                     part = r.choice([None, 0, 1, 5, (), (0,), ((),), "at", number(1), ("thing", 0), ("end", ("stuck",)), ("end", ("pair",)),
                                      value[at] + value[at] if isinstance(value[at], tuple) else value[at], value[r.randrange(8)],
@@ -137,7 +137,7 @@ class ReadTest(unittest.TestCase):
                     if self.check(text):
                         self.assertEqual(plain_tuple(read_image(text)), near)
                         right += 1
-        self.assertGreater(right, 100)
+        self.assertGreater(right, 50)
 
     def test_by_hand(self):
         right = plain_tuple(picture_at(("show", number(5)), 0))

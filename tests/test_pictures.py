@@ -319,7 +319,7 @@ class IsPictureTest(unittest.TestCase):
         r = random.Random(106)
         right, wrong = 0, 0
         for program in PROGRAMS:
-            for moment in moments_of(r, program, 3):
+            for moment in moments_of(r, program, 1):
                 picture = picture_at(program, moment)
                 if r.random() < 0.5:
                     picture = gone_from(r, picture, 0.3)
@@ -336,7 +336,7 @@ class IsPictureTest(unittest.TestCase):
                     self.assertIs(is_picture(value), wanted_answer)
                     right += wanted_answer
                     wrong += not wanted_answer
-        self.assertTrue(right > 2000 and wrong > 20000, (right, wrong))
+        self.assertTrue(right > 1500 and wrong > 10000, (right, wrong))
 
     def test_any_value(self):
         for value in ODD:

@@ -122,7 +122,7 @@ class SourceTest(unittest.TestCase):
     def test_each_row_and_size_changed(self):
         """Whatever comes is right: a program of which the code is compiled; and a code that is known to be one is found."""
         found = {True: 0, False: 0}
-        for program in BY_HAND + PROGRAMS[40:70]:
+        for program in BY_HAND[::2] + PROGRAMS[40:60]:
             code = compiled(program)
             for at, (held, slots, rows) in enumerate(code):
                 blocks = [(held + 1, slots, rows), (held, slots + 1, rows), (max(held - 1, 0), slots, rows)]
@@ -139,7 +139,7 @@ class SourceTest(unittest.TestCase):
             for at in range(1, len(code) - 1):
                 self.check(code[:at] + (code[at + 1], code[at]) + code[at + 2:])
             self.check(code + ((0, 1, (("slot", 0), ("return",))),))
-        self.assertTrue(found[True] > 300 and found[False] > 3000, found)
+        self.assertTrue(found[True] > 150 and found[False] > 1500, found)
 
     def check(self, code):
         if not is_code(code):
