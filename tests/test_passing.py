@@ -362,7 +362,7 @@ class RunsTest(unittest.TestCase):
 class GainTest(unittest.TestCase):
     def test_against_bills_and_runs(self):
         met = dict.fromkeys(WORDS, 0)
-        numbers = set()
+        numbers, returned = set(), set()
         for program, value in BILLED:
             for word, path in passes(program):
                 found = gain(program, value, word, path)
@@ -377,12 +377,15 @@ class GainTest(unittest.TestCase):
                 self.assertTrue(all(found[kind] >= 0 for kind in KINDS if kind != "let") and found["let"] + found["call"] >= 0)
                 met[word] += 1
                 numbers.add(min(len(instances(program, path)), 3))
+                if word in ("fun", "same", "last"):
+                    returned |= {(word, min(many(tree), 2)) for _, _, tree in instances(program, (*path, 2))}
                 try:
                     self.assertEqual(new, bill(made))
                 except TooMany:
                     pass
         self.assertTrue(all(times > 20 for times in met.values()), met)
         self.assertEqual(numbers, {0, 1, 2, 3})
+        self.assertEqual(returned, {(word, times) for word in ("fun", "same", "last") for times in (0, 1, 2)})
 
     def test_by_hand(self):
         value = bill(EXAMPLE)
